@@ -1,0 +1,1 @@
+"""The marking of an abacus school's contests."""
