@@ -3,6 +3,8 @@
 from abacusmark.problems import read_sheet
 from abacusmark.refusals import Fault
 from abacusmark.refusals import TooLong
+from abacusmark.solving import right_answer
+from abacusmark.solving import written
 
 MOST_BYTES = 16384
 
@@ -12,11 +14,27 @@ def check_length(text):
         raise TooLong()
 
 
+def problems_of(text):
+    check_length(text)
+    return read_sheet(text)
+
+
 def sheet(text):
     """How many problems the sheet has."""
     try:
-        check_length(text)
-        problems = read_sheet(text)
+        problems = problems_of(text)
     except (TooLong, Fault) as refusal:
         return refusal.answered
     return [len(problems)]
+
+
+def answer(i, sheet):
+    """The right answer of problem i, counted from 0, written."""
+    try:
+        problems = problems_of(sheet)
+    except (TooLong, Fault) as refusal:
+        return refusal.answered
+    if i >= len(problems):
+        return [-4]
+    problem = problems[i]
+    return [0] + written(right_answer(problem), problem.places)

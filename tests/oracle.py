@@ -109,3 +109,35 @@ def expected_sheet(words):
     if count is not None:
         return [count]
     return [-5, 12, fault(words)]
+
+
+def written(units, places):
+    """The words for units of the last place, digit by digit from the right."""
+    signs = ""
+    rest = abs(units)
+    for place in range(places):
+        signs = str(rest % 10) + signs
+        rest //= 10
+    if places:
+        signs = "." + signs
+    signs = str(rest) + signs
+    return "-" + signs if units < 0 else signs
+
+
+def rounded(number, places):
+    """A Fraction to so many places, of two as near the one farther from 0, written."""
+    scaled = number * 10 ** places
+    down = abs(scaled).numerator // abs(scaled).denominator
+    if abs(scaled) - down >= Fraction(1, 2):
+        down += 1
+    return written(-down if scaled < 0 else down, places)
+
+
+def is_nearest_root(words, number, places):
+    """Whether the words are the root of a Fraction, to so many places, of two as near the greater."""
+    answered = Fraction(words)
+    half = Fraction(1, 2 * 10 ** places)
+    if words != written(int(answered * 10 ** places), places):
+        return False
+    lowest = max(answered - half, 0)
+    return lowest * lowest <= number < (answered + half) * (answered + half)

@@ -49,6 +49,9 @@ class Sheets(SheetCase):
             for number in answered:
                 self.assertIs(type(number), int)
 
+    def test_the_argument_by_name(self):
+        self.assertEqual(sheet(text=as_bytes(SUM)), [1])
+
     def test_nothing_is_changed_and_nothing_kept(self):
         for words in ("", SUM + ROOT, SUM + "x", "1" * 16385):
             text = as_bytes(words)
