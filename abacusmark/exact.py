@@ -8,6 +8,9 @@ class Decimal:
         self.units = units
         self.scale = scale
 
+    def negated(self):
+        return Decimal(-self.units, self.scale)
+
 
 def ten_to(count):
     power = 1

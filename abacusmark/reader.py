@@ -86,25 +86,27 @@ class Reader:
         return self.read_bounded(0, MOST_WHOLE)
 
     def read_decimal(self, may_be_below, may_be_nought):
-        """A decimal; the arguments tell whether it may be below 0, and whether it may be 0."""
-        below = may_be_below and self.skip(MINUS)
-        never_nought = below or not may_be_nought
-        number = Decimal(self.read_bounded(0, MOST_WHOLE), 1)
+        """A decimal of a sheet; the arguments tell whether it may be below 0, and whether it may be 0."""
+        if may_be_below and self.skip(MINUS):
+            return self.read_unsigned(MOST_WHOLE, False).negated()
+        return self.read_unsigned(MOST_WHOLE, may_be_nought)
+
+    def read_unsigned(self, most_whole, may_be_nought):
+        """A number with no sign, and with at most most_whole before its point."""
+        number = Decimal(self.read_bounded(0, most_whole), 1)
         if self.skip(POINT):
-            self.read_tail(number, never_nought)
-        if never_nought and number.units == 0:
+            self.read_tail(number, may_be_nought)
+        if number.units == 0 and not may_be_nought:
             raise Fault(self.rule, self.at)
-        if below:
-            return Decimal(-number.units, number.scale)
         return number
 
-    def read_tail(self, number, never_nought):
+    def read_tail(self, number, may_be_nought):
         """Puts the digits behind the point onto the number."""
         while self.peek_digit() >= 0 and number.scale < MOST_SCALE:
             units = number.units * 10 + self.peek_digit()
             scale = number.scale * 10
             # With its last digit a nought too the number is 0 for good: no text goes on so.
-            if never_nought and units == 0 and scale == MOST_SCALE:
+            if units == 0 and scale == MOST_SCALE and not may_be_nought:
                 break
             number.units = units
             number.scale = scale

@@ -1,5 +1,13 @@
 """The calls."""
 
+from abacusmark.answers import read_answers
+from abacusmark.marking import LEFT_OUT
+from abacusmark.marking import RIGHT
+from abacusmark.marking import WRONG
+from abacusmark.marking import are_rules
+from abacusmark.marking import marks_of
+from abacusmark.marking import points_in_time
+from abacusmark.marking import points_of_marks
 from abacusmark.problems import read_sheet
 from abacusmark.refusals import Fault
 from abacusmark.refusals import TooLong
@@ -38,3 +46,25 @@ def answer(i, sheet):
         return [-4]
     problem = problems[i]
     return [0] + written(right_answer(problem), problem.places)
+
+
+def mark(limit, minus, bonus, sheet, answers):
+    """Points, how many are right, wrong and left out, the time, then each problem's mark."""
+    try:
+        # Either text's length is looked at ahead of any fault.
+        check_length(sheet)
+        check_length(answers)
+        problems = read_sheet(sheet)
+        handed_in = read_answers(answers)
+    except (TooLong, Fault) as refusal:
+        return refusal.answered
+    if not are_rules(limit, minus, bonus):
+        return [-1]
+    if len(handed_in.numbers) > len(problems):
+        return [-3]
+    seconds = handed_in.seconds
+    marks = marks_of(problems, handed_in.numbers)
+    gained = points_of_marks(problems, marks, minus)
+    points = points_in_time(gained, marks, seconds, limit, bonus)
+    counts = [marks.count(RIGHT), marks.count(WRONG), marks.count(LEFT_OUT)]
+    return [0, points] + counts + [seconds] + marks

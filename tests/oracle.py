@@ -1,7 +1,7 @@
 """A second reading of the document, written apart from the package, for the tests to hold it against.
 
-A sheet is told by patterns here, and a beginning by trying endings: it is one
-just if some ending makes a sheet of it.
+A sheet and answers are told by patterns here, and a beginning by trying
+endings: it is one just if some ending makes a text of the kind of it.
 """
 
 import re
@@ -96,12 +96,17 @@ def is_beginning(words):
     return any(count_problems(words + ending) is not None for ending in ENDINGS)
 
 
-def fault(words):
-    """The fault of words that are no sheet."""
+def longest(words, is_begun):
+    """The length of the longest beginning of the words that is_begun says to be one."""
     place = 0
-    while place < len(words) and is_beginning(words[:place + 1]):
+    while place < len(words) and is_begun(words[:place + 1]):
         place += 1
     return place
+
+
+def fault(words):
+    """The fault of words that are no sheet."""
+    return longest(words, is_beginning)
 
 
 def expected_sheet(words):
@@ -109,6 +114,27 @@ def expected_sheet(words):
     if count is not None:
         return [count]
     return [-5, 12, fault(words)]
+
+
+NUMBER = r"-?(?:0|[1-9][0-9]{0,39})(?:\.[0-9]{1,9})?"
+ANSWERS = re.compile(r"time (?:0|[1-9][0-9]{0,4})\n(?:(?:-|" + NUMBER + r")\n)*")
+ANSWERS_ENDINGS = ["time 1\n"[start:] for start in range(8)] + ["1\n", ".1\n"]
+
+
+def are_answers(words):
+    if ANSWERS.fullmatch(words) is None:
+        return False
+    return all(line == "-" or is_decimal(line) for line in words.split("\n")[1:-1])
+
+
+@lru_cache(maxsize=None)
+def begins_answers(words):
+    return any(are_answers(words + ending) for ending in ANSWERS_ENDINGS)
+
+
+def answers_fault(words):
+    """The fault of words that are no answers."""
+    return longest(words, begins_answers)
 
 
 def written(units, places):
@@ -137,7 +163,77 @@ def is_nearest_root(words, number, places):
     """Whether the words are the root of a Fraction, to so many places, of two as near the greater."""
     answered = Fraction(words)
     half = Fraction(1, 2 * 10 ** places)
-    if words != written(int(answered * 10 ** places), places):
+    if answered < 0 or words != written(int(answered * 10 ** places), places):
         return False
     lowest = max(answered - half, 0)
     return lowest * lowest <= number < (answered + half) * (answered + half)
+
+
+def split_problems(words):
+    """Of each problem of a sheet its points, its kind, its numbers and its places."""
+    problems = []
+    lines = words.split("\n")[:-1]
+    while lines:
+        points, kind, *rest = lines.pop(0).split(" ")
+        if kind == "sum":
+            rows = int(rest[0])
+            numbers, lines = lines[:rows], lines[rows:]
+            places = 0
+        else:
+            *numbers, places = rest
+        problems.append((int(points), kind, [Fraction(number) for number in numbers], int(places)))
+    return problems
+
+
+def is_right(problem, words):
+    """Whether the words of an answer are a writing of the problem's right answer."""
+    points, kind, numbers, places = problem
+    answered = Fraction(words)
+    units = answered * 10 ** places
+    if units.denominator != 1:
+        return False
+    if kind == "root":
+        return is_nearest_root(written(int(units), places), numbers[0], places)
+    if kind == "sum":
+        return answered == sum(numbers)
+    if kind == "product":
+        return answered == Fraction(rounded(numbers[0] * numbers[1], places))
+    return answered == Fraction(rounded(numbers[0] / numbers[1], places))
+
+
+def expected_points(limit, minus, bonus, seconds, problems, marks):
+    if 0 < limit < seconds:
+        return 0
+    points = 0
+    for problem, mark in zip(problems, marks):
+        points += problem[0] if mark == 1 else 0
+    for mark in marks:
+        points -= minus if mark == 2 else 0
+    points = max(points, 0)
+    if limit > 0 and marks and set(marks) == {1}:
+        while seconds + 60 <= limit:
+            points += bonus
+            seconds += 60
+    return points
+
+
+def expected_mark(limit, minus, bonus, sheet, answers):
+    if len(sheet) > 16384 or len(answers) > 16384:
+        return [-6]
+    if count_problems(sheet) is None:
+        return [-5, 12, fault(sheet)]
+    if not are_answers(answers):
+        return [-5, 13, answers_fault(answers)]
+    if limit > 99999 or minus > 9999 or bonus > 9999:
+        return [-1]
+    problems = split_problems(sheet)
+    first, *lines = answers.split("\n")[:-1]
+    if len(lines) > len(problems):
+        return [-3]
+    lines += ["-"] * (len(problems) - len(lines))
+    marks = []
+    for problem, words in zip(problems, lines):
+        marks.append(0 if words == "-" else 1 if is_right(problem, words) else 2)
+    seconds = int(first[5:])
+    points = expected_points(limit, minus, bonus, seconds, problems, marks)
+    return [0, points, marks.count(1), marks.count(2), marks.count(0), seconds] + marks

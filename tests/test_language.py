@@ -140,6 +140,20 @@ class Language(unittest.TestCase):
                 if isinstance(node, ast.Name) and hasattr(builtins, node.id):
                     self.assertIn(node.id, ALLOWED_BUILTINS, (name, node.lineno))
 
+    def test_no_name_is_a_method_here_and_a_value_there(self):
+        methods = {}
+        values = {}
+        for name, tree in self.trees():
+            for owner in ast.walk(tree):
+                if not isinstance(owner, ast.ClassDef):
+                    continue
+                for node in ast.walk(owner):
+                    if isinstance(node, ast.FunctionDef):
+                        methods[node.name] = owner.name
+                    if isinstance(node, ast.Attribute) and isinstance(node.ctx, ast.Store):
+                        values[node.attr] = owner.name
+        self.assertEqual(sorted(set(methods) & set(values)), [])
+
     def test_methods(self):
         own = {node.name for name, tree in self.trees() for node in ast.walk(tree) if isinstance(node, ast.FunctionDef)}
         for name, tree in self.trees():
