@@ -9,6 +9,7 @@ from abacusmark.marking import marks_of
 from abacusmark.marking import points_in_time
 from abacusmark.marking import points_of_marks
 from abacusmark.problems import read_sheet
+from abacusmark.ranking import ranks_of
 from abacusmark.refusals import Fault
 from abacusmark.refusals import TooLong
 from abacusmark.solving import right_answer
@@ -68,3 +69,12 @@ def mark(limit, minus, bonus, sheet, answers):
     points = points_in_time(gained, marks, seconds, limit, bonus)
     counts = [marks.count(RIGHT), marks.count(WRONG), marks.count(LEFT_OUT)]
     return [0, points] + counts + [seconds] + marks
+
+
+def ranks(points, times):
+    """The rank of each: 1 more than how many have more points, or as many in less time."""
+    if len(points) != len(times):
+        return [-1]
+    # More points are better, but less time is: with the points negated, less of either is better.
+    standings = [(-earned, seconds) for earned, seconds in zip(points, times)]
+    return [0] + ranks_of(standings)

@@ -237,3 +237,16 @@ def expected_mark(limit, minus, bonus, sheet, answers):
     seconds = int(first[5:])
     points = expected_points(limit, minus, bonus, seconds, problems, marks)
     return [0, points, marks.count(1), marks.count(2), marks.count(0), seconds] + marks
+
+
+def expected_ranks(points, times):
+    if len(points) != len(times):
+        return [-1]
+    answered = [0]
+    for own in zip(points, times):
+        better = 0
+        for other in zip(points, times):
+            if other[0] > own[0] or (other[0] == own[0] and other[1] < own[1]):
+                better += 1
+        answered.append(1 + better)
+    return answered
