@@ -78,3 +78,8 @@ def ranks(points, times):
     # More points are better, but less time is: with the points negated, less of either is better.
     standings = [(-earned, seconds) for earned, seconds in zip(points, times)]
     return [0] + ranks_of(standings)
+
+
+def grade(points, bounds):
+    """How many of the bounds are not above the points."""
+    return [len([bound for bound in bounds if bound <= points])]

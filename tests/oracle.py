@@ -250,3 +250,10 @@ def expected_ranks(points, times):
                 better += 1
         answered.append(1 + better)
     return answered
+
+
+def expected_grade(points, bounds):
+    above = 0
+    for bound in bounds:
+        above += 1 if bound > points else 0
+    return [len(bounds) - above]
