@@ -5,6 +5,8 @@ from abacusmark.reader import Reader
 from abacusmark.refusals import Fault
 
 SHEET_RULE = 12
+FEWEST_ROWS = 2
+MOST_ROWS = 64
 
 # The four words differ in their first byte, so that byte alone tells which one must follow.
 KIND_BY_BYTE = {115: "sum", 112: "product", 113: "quotient", 114: "root"}
@@ -30,7 +32,7 @@ def read_kind(reader):
 
 
 def read_rows(reader):
-    rows = reader.read_bounded(2, 64)
+    rows = reader.read_bounded(FEWEST_ROWS, MOST_ROWS)
     reader.read_words("\n")
     numbers = []
     while len(numbers) < rows:

@@ -1,6 +1,8 @@
 """The calls."""
 
 from abacusmark.answers import read_answers
+from abacusmark.drawing import can_be_drawn
+from abacusmark.drawing import drawn_sheet
 from abacusmark.marking import LEFT_OUT
 from abacusmark.marking import RIGHT
 from abacusmark.marking import WRONG
@@ -28,6 +30,10 @@ def problems_of(text):
     return read_sheet(text)
 
 
+def bytes_of(words):
+    return [ord(sign) for sign in words]
+
+
 def sheet(text):
     """How many problems the sheet has."""
     try:
@@ -46,7 +52,7 @@ def answer(i, sheet):
     if i >= len(problems):
         return [-4]
     problem = problems[i]
-    return [0] + written(right_answer(problem), problem.places)
+    return [0] + bytes_of(written(right_answer(problem), problem.places))
 
 
 def mark(limit, minus, bonus, sheet, answers):
@@ -83,3 +89,10 @@ def ranks(points, times):
 def grade(points, bounds):
     """How many of the bounds are not above the points."""
     return [len([bound for bound in bounds if bound <= points])]
+
+
+def draw(seed, rows, digits):
+    """A sheet of one sum, drawn from the seed."""
+    if not can_be_drawn(seed, rows, digits):
+        return [-1]
+    return [0] + bytes_of(drawn_sheet(seed, rows, digits))

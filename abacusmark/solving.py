@@ -31,12 +31,12 @@ def right_answer(problem):
 
 
 def written(units, places):
-    """The bytes of a number that has so many units of its last place."""
+    """The words of a number that has so many units of its last place."""
     digits = str(abs(units)).rjust(places + 1, "0")
     words = digits
     if places > 0:
         before = len(digits) - places
         words = digits[:before] + "." + digits[before:]
     if units < 0:
-        words = "-" + words
-    return [ord(sign) for sign in words]
+        return "-" + words
+    return words

@@ -7,6 +7,7 @@ endings: it is one just if some ending makes a text of the kind of it.
 import re
 from fractions import Fraction
 from functools import lru_cache
+from math import floor
 
 WHOLE = r"(?:0|-?[1-9][0-9]{0,17})"
 DECIMAL = r"(-?(?:0|[1-9][0-9]{0,17})(?:\.[0-9]{1,9})?)"
@@ -257,3 +258,31 @@ def expected_grade(points, bounds):
     for bound in bounds:
         above += 1 if bound > points else 0
     return [len(bounds) - above]
+
+
+def drawn_facts(seed, rows, digits):
+    """Of each row that is drawn its number, without a sign, and whether the x behind it isn't below 2^63."""
+    xs = [seed]
+    for step in range(2 * rows):
+        xs.append((6364136223846793005 * xs[-1] + 1442695040888963407) & (2 ** 64 - 1))
+    least = 10 ** (digits - 1)
+    facts = []
+    for row in range(rows):
+        more = floor(Fraction(xs[2 * row + 1], 2 ** 64) * 9 * least)
+        facts.append((least + more, not xs[2 * row + 2] < 2 ** 63))
+    return facts
+
+
+def expected_draw(seed, rows, digits):
+    if seed >> 64 or rows not in range(2, 65) or digits not in range(1, 19):
+        return [-1]
+    words = f"10 sum {rows}\n"
+    together = 0
+    for number, is_high in drawn_facts(seed, rows, digits):
+        if is_high and not together < number:
+            words += f"-{number}\n"
+            together -= number
+        else:
+            words += f"{number}\n"
+            together += number
+    return [0] + as_bytes(words)
